@@ -1,0 +1,1 @@
+"""Heavierhall: things that meet, the heavier gives."""

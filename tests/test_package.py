@@ -1,0 +1,68 @@
+"""What the package is made of: its interface, where each name is defined, and the size of its files."""
+
+import ast
+import unittest
+from pathlib import Path
+
+PACKAGE = Path(__file__).resolve().parent.parent / "heavierhall"
+
+# file, {name: its parameters, or None for a class}
+INTERFACE = {
+    "errors": {
+        "HallError": None, "BadWorld": None, "BadMeeting": None, "BadWish": None, "BadPaper": None, "NoThing": None,
+        "BadDeed": None, "BadCount": None, "TooMany": None, "NoPair": None, "BadText": None,
+    },
+    "worlds": {"met": ["world", "meetings"], "gifts": ["world", "meetings"]},
+    "reaching": {
+        "reached": ["world"], "ends": ["world"], "way": ["world", "wish"], "bars": ["world", "rows", "wish"],
+    },
+    "endings": {
+        "round_of": ["world"], "heights": ["world"], "longest": ["world"], "only_end": ["world"],
+        "shows": ["world", "rows"],
+    },
+}
+
+
+class Package(unittest.TestCase):
+    def setUp(self):
+        self.texts = {path.stem: path.read_text(encoding="utf-8") for path in sorted(PACKAGE.glob("*.py"))}
+        self.trees = {name: ast.parse(text) for name, text in self.texts.items()}
+
+    def test_interface_is_defined_where_it_is_listed(self):
+        for name, listed in INTERFACE.items():
+            defined = {}
+            for row in self.trees[name].body:
+                if isinstance(row, ast.FunctionDef):
+                    defined[row.name] = [argument.arg for argument in row.args.args]
+                elif isinstance(row, ast.ClassDef):
+                    defined[row.name] = None
+            for word, parameters in listed.items():
+                with self.subTest(file=name, name=word):
+                    self.assertIn(word, defined)
+                    self.assertEqual(defined[word], parameters)
+
+    def test_nothing_but_files_of_the_package(self):
+        others = [path.name for path in PACKAGE.iterdir() if path.suffix != ".py" and path.name != "__pycache__"]
+        self.assertEqual(others, [])
+        self.assertIn("__init__", self.texts)
+
+    def test_imports_are_from_the_package(self):
+        for name, tree in self.trees.items():
+            for node in ast.walk(tree):
+                self.assertNotIsInstance(node, ast.Import, name)
+                if isinstance(node, ast.ImportFrom):
+                    self.assertEqual((node.level, node.module.split(".")[0]), (0, "heavierhall"), name)
+
+    def test_sizes_and_characters(self):
+        for name, text in self.texts.items():
+            rows = text.split("\n")
+            self.assertLess(len(rows), 400, name)
+            self.assertLessEqual(max(len(row) for row in rows), 120, name)
+            self.assertEqual([sign for sign in text if not (" " <= sign <= "~" or sign == "\n")], [], name)
+            for node in ast.walk(self.trees[name]):
+                if isinstance(node, ast.FunctionDef):
+                    self.assertLessEqual(node.end_lineno - node.lineno + 1, 40, (name, node.name))
+
+
+if __name__ == "__main__":
+    unittest.main()
