@@ -6,6 +6,8 @@ from pathlib import Path
 
 PACKAGE = Path(__file__).resolve().parent.parent / "heavierhall"
 
+ALLOWED_IMPORTS = ("heavierhall", "heapq", "math", "itertools", "collections", "__future__")
+
 # file, {name: its parameters, or None for a class}
 INTERFACE = {
     "errors": {
@@ -46,12 +48,13 @@ class Package(unittest.TestCase):
         self.assertEqual(others, [])
         self.assertIn("__init__", self.texts)
 
-    def test_imports_are_from_the_package(self):
+    def test_imports_are_allowed_ones(self):
         for name, tree in self.trees.items():
             for node in ast.walk(tree):
                 self.assertNotIsInstance(node, ast.Import, name)
                 if isinstance(node, ast.ImportFrom):
-                    self.assertEqual((node.level, node.module.split(".")[0]), (0, "heavierhall"), name)
+                    self.assertEqual(node.level, 0, name)
+                    self.assertIn(node.module.split(".")[0], ALLOWED_IMPORTS, name)
 
     def test_sizes_and_characters(self):
         for name, text in self.texts.items():
