@@ -11,11 +11,8 @@ MOST_MEETINGS = 200
 def met(world, meetings):
     """The weights behind these meetings."""
     check_world(world)
-    weights, pairs, rule = world
-    check_meetings(pairs, meetings)
-    for place in meetings:
-        weights = behind(weights, gift(weights, pairs[place], rule))
-    return weights
+    check_meetings(world[1], meetings)
+    return onward(world, world[0], meetings)
 
 
 def gifts(world, meetings):
@@ -29,6 +26,14 @@ def gifts(world, meetings):
         given.append(present)
         weights = behind(weights, present)
     return given
+
+
+def onward(world, weights, meetings):
+    """The weights behind these meetings, from these weights on."""
+    _, pairs, rule = world
+    for place in meetings:
+        weights = behind(weights, gift(weights, pairs[place], rule))
+    return weights
 
 
 def gift(weights, pair, rule):

@@ -157,6 +157,35 @@ def slow_longest(steps, weights, known):
     return known[weights]
 
 
+def slow_trail(world, turns):
+    """(the weights behind 0, 1, 2 .. meetings, till all comes again; behind how many it had been so)."""
+    weights, place, trail, seen = world[0], 0, [], {}
+    while (weights, place) not in seen:
+        seen[weights, place] = len(trail)
+        trail.append(weights)
+        weights, place = step(world, weights, turns[place]), (place + 1) % len(turns)
+    return trail, seen[weights, place]
+
+
+def slow_forced(steps, wished):
+    """Two of {weights: in how many meetings}: when the wishing hand is on, and when the other one is.
+
+    By the words: of all weights it's asked again and again what can be forced in so many meetings.
+    """
+    mine = {weights: 0 for weights in wished}
+    other = dict(mine)
+    number, last = 0, 0
+    while number - last < 3:
+        number += 1
+        by_one = {weights for weights, rows in steps.items() if any(after in other for after in rows)}
+        by_all = {weights for weights, rows in steps.items() if rows and all(after in mine for after in rows)}
+        for known, found in ((mine, by_one), (other, by_all)):
+            for weights in found - set(known):
+                known[weights] = number
+                last = number
+    return mine, other
+
+
 def many_worlds():
     """Small worlds of all kinds, the same ones each time."""
     two = [(3, 0), (0, 7), (1, 0), (4, 4), (9, 2)]

@@ -8,7 +8,7 @@ PACKAGE = Path(__file__).resolve().parent.parent / "heavierhall"
 
 ALLOWED_IMPORTS = ("heavierhall", "heapq", "math", "itertools", "collections", "__future__")
 
-# file, {name: its parameters, or None for a class}
+# file, {name: its parameters, or None for a class, or {method: its parameters} for one with methods}
 INTERFACE = {
     "errors": {
         "HallError": None, "BadWorld": None, "BadMeeting": None, "BadWish": None, "BadPaper": None, "NoThing": None,
@@ -22,7 +22,35 @@ INTERFACE = {
         "round_of": ["world"], "heights": ["world"], "longest": ["world"], "only_end": ["world"],
         "shows": ["world", "rows"],
     },
+    "turns": {
+        "period": ["world", "turns"], "after": ["world", "turns", "many"], "rests": ["world", "turns"],
+    },
+    "duels": {
+        "forced": ["world", "wish"], "chosen": ["world", "wish"], "plan": ["world", "wish"],
+        "wins": ["world", "wish", "rows"],
+    },
+    "halls": {
+        "Hall": {
+            "__init__": ["self", "rule"], "come": ["self", "weight"], "leave": ["self", "number"],
+            "link": ["self", "one", "other"], "cut": ["self", "one", "other"], "meet": ["self", "one", "other"],
+            "back": ["self"], "weights": ["self"], "pairs": ["self"], "deeds": ["self"], "still": ["self"],
+            "world": ["self"],
+        },
+        "again": ["rule", "deeds"],
+    },
+    "notes": {"written": ["world"], "read": ["text"]},
 }
+
+
+def defined_in(body):
+    """{name: its parameters, or what is defined in its class} of all that these rows define."""
+    found = {}
+    for row in body:
+        if isinstance(row, ast.FunctionDef):
+            found[row.name] = [argument.arg for argument in row.args.args]
+        elif isinstance(row, ast.ClassDef):
+            found[row.name] = defined_in(row.body)
+    return found
 
 
 class Package(unittest.TestCase):
@@ -32,16 +60,16 @@ class Package(unittest.TestCase):
 
     def test_interface_is_defined_where_it_is_listed(self):
         for name, listed in INTERFACE.items():
-            defined = {}
-            for row in self.trees[name].body:
-                if isinstance(row, ast.FunctionDef):
-                    defined[row.name] = [argument.arg for argument in row.args.args]
-                elif isinstance(row, ast.ClassDef):
-                    defined[row.name] = None
-            for word, parameters in listed.items():
+            defined = defined_in(self.trees[name].body)
+            for word, wanted in listed.items():
                 with self.subTest(file=name, name=word):
                     self.assertIn(word, defined)
-                    self.assertEqual(defined[word], parameters)
+                    if isinstance(wanted, list):
+                        self.assertEqual(defined[word], wanted)
+                    else:
+                        self.assertIsInstance(defined[word], dict)
+                        own = {method: defined[word].get(method) for method in wanted or {}}
+                        self.assertEqual(own, wanted or {})
 
     def test_nothing_but_files_of_the_package(self):
         others = [path.name for path in PACKAGE.iterdir() if path.suffix != ".py" and path.name != "__pycache__"]

@@ -3,9 +3,12 @@
 import unittest
 from itertools import combinations
 
+from heavierhall.duels import chosen, forced, plan, wins
 from heavierhall.endings import heights, longest, only_end, round_of, shows
 from heavierhall.errors import BadMeeting, BadWorld
+from heavierhall.notes import written
 from heavierhall.reaching import bars, ends, reached, way
+from heavierhall.turns import after, period, rests
 from heavierhall.worlds import gifts, met
 from tests.helpers import ALL_RULES, BAD_WORLDS, NO_RULES, SWAP, gift, many_worlds, refusal, step
 
@@ -22,6 +25,19 @@ ASKED = [
     lambda world: longest(world),
     lambda world: only_end(world),
     lambda world: shows(world, [((), -1)]),
+    lambda world: period(world, (-1,)),
+    lambda world: period(world, ()),
+    lambda world: after(world, (), -1),
+    lambda world: after(world, (-1,), -1),
+    lambda world: after(world, (0,), -1),
+    lambda world: rests(world, (-1,)),
+    lambda world: rests(world, ()),
+    lambda world: forced(world, ((-1, 0, 0),)),
+    lambda world: chosen(world, ((-1, 0, 0),)),
+    lambda world: plan(world, ((-1, 0, 0),)),
+    lambda world: wins(world, ((-1, 0, 0),), [((), -1, -1)]),
+    lambda world: wins(world, (), [((), -1, -1)]),
+    lambda world: written(world),
 ]
 
 
